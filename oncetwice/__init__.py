@@ -1,0 +1,1 @@
+"""Oncetwice: many cells at once, one writing at a time."""
