@@ -77,14 +77,19 @@ def safe_span(wish, words):
     return span_of(rows)
 
 
-def lack_at(wish, ticks, moment):
-    """The pair of the lack at a moment and of how many cells are amid then."""
-    words = stages_at(wish, ticks, moment)
+def lack_of(wish, words):
+    """The lack at a moment at which the cells have these words."""
     safe = safe_span(wish, words)
     needed = safe
     for cell in wished_cells(wish):
         needed = widened(needed, wish.rows[cell])
-    return (len(needed) - len(safe), words.count(AMID))
+    return len(needed) - len(safe)
+
+
+def lack_at(wish, ticks, moment):
+    """The pair of the lack at a moment and of how many cells are amid then."""
+    words = stages_at(wish, ticks, moment)
+    return (lack_of(wish, words), words.count(AMID))
 
 
 def lost_at(wish, ticks, moment):

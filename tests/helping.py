@@ -4,6 +4,7 @@ from fractions import Fraction
 from itertools import combinations, product
 
 from oncetwice.errors import BadWish, NoProgram
+from oncetwice.tables import Table
 from oncetwice.wishes import Wish
 
 
@@ -50,8 +51,8 @@ def odd_things():
         None, True, False, "", "0", "momen", b"", b"01", [], [0], [0, 1], [[0, [1, 2]]], {}, {0: 1},
         {"rows": ()}, range(2), slice(1), Ellipsis, NotImplemented, len, int, object(), iter([0]),
         bytearray(b"a"), memoryview(b"a"), ValueError("a"), odd_things, NoProgram(),
-        BadWish(("rows",)), SWAP, wish([None]), deep((), 36), deep(None, 36), deep_list(0, 36),
-        deep({0: deep_list(True, 10)}, 20), ((None,),) * 9,
+        BadWish(("rows",)), SWAP, wish([None]), Table(2, 1, ((1,), (0,))),
+        deep((), 36), deep(None, 36), deep_list(0, 36), deep({0: deep_list(True, 10)}, 20), ((None,),) * 9,
     ]
 
 
@@ -195,6 +196,27 @@ def is_good(a_wish, ticks):
     return all(lacking <= amid for lacking, amid in lacks)
 
 
+def judge(a_wish):
+    """is_good for this wish alone; the lack is reckoned once for the same words of all cells."""
+    lacks = {}
+    needed = [cell for cell, values in enumerate(a_wish.rows) if values is not None and not keeps(a_wish, cell)]
+
+    def good(ticks):
+        written = {cell for tick in ticks for cell in tick}
+        if any(cell in written for cell in a_wish.locked) or any(cell not in written for cell in needed):
+            return False
+        for moment in range(len(ticks) + 1):
+            words = words_at(a_wish, ticks, moment)
+            if words not in lacks:
+                lacking, amid = lack_of(a_wish, ticks, moment)
+                lacks[words] = lacking <= amid
+            if not lacks[words]:
+                return False
+        return True
+
+    return good
+
+
 def done_ticks(a_wish, ticks, contents):
     """What all cells hold, as Fractions or lists of them, behind ticks of writings done at once."""
     held = [list(values) for values in contents]
@@ -260,3 +282,48 @@ def threes():
         wish([None, (1, 0, 0), (0, 1, 0)]),
         wish([None, None, None]),
     ]
+
+
+def more_threes():
+    """More wishes of three cells: such as keep, locked and free ones, and up to two spare cells."""
+    return [
+        wish([(0, 1, 0), (1, 0, 0), (0, 0, 1)]),
+        wish([(0, 1, 0), (1, 0, 0), (0, 0, 1)], (), 1),
+        wish([(0, 1, 0), (1, 0, 0), (0, 0, 1)], (2,), 2),
+        wish([(1, 0, 0), (0, 1, 0), (0, 0, 1)], (0, 1, 2), 1),
+        wish([(1, 0, 0), (0, 0, 1), (0, 1, 0)], (0,), 1),
+        wish([(0, 1, 0), (0, 0, 1), None], (2,), 1),
+        wish([None, (1, 0, "2/3"), ("1/2", "1/3", 0)], (0,)),
+        wish([None, (1, 1, 0), None], (0, 2), 1),
+        wish([(0, 1, 1), (1, 0, 1), (1, 1, 0)]),
+        wish([(0, 1, 0), (0, 0, 1), (1, 0, 0)], (), 2),
+        wish([(0, 0, 1), None, (1, 0, 0)], (1,)),
+        wish([(0, 0, 1), (0, 1, 0), (1, 0, 0)], (2,)),
+        wish([("1/2", 0, 1), (1, 0, "1/2"), (0, "7/3", 0)]),
+        wish([("1/2", 0, 1), (1, 0, 2), (0, 1, 0)], (2,)),
+    ]
+
+
+def some_wishes():
+    return [*small_wishes(), *threes(), *more_threes()]
+
+
+def has_way(a_wish):
+    """Whether each locked cell is free or keeps, from the second fact."""
+    return all(a_wish.rows[cell] is None or keeps(a_wish, cell) for cell in a_wish.locked)
+
+
+def with_spare(a_wish, spare):
+    return Wish(a_wish.rows, a_wish.locked, spare)
+
+
+def onto_wishes(cells, spare):
+    """All onto wishes of so many cells with multiples nought and one, none locked."""
+    for rows in product(product((0, 1), repeat=cells), repeat=cells):
+        if rank([[Fraction(value) for value in values] for values in rows]) == cells:
+            yield wish(rows, (), spare)
+
+
+def applied(a_wish, contents):
+    """What the cells are to hold, as Fractions, if they hold these numbers at first."""
+    return [sum(k * value for k, value in zip(fractions(values), contents)) for values in a_wish.rows]

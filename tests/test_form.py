@@ -29,8 +29,37 @@ INTERFACE = {
         "made_ticks": ["wish", "timetable"],
         "is_made_ticks": ["wish", "timetable", "thing"],
     },
+    "fewest": {
+        "fewest": ["wish"],
+        "shortest": ["wish"],
+        "count_shortest": ["wish"],
+        "cheapest": ["wish", "prices"],
+        "ladder": ["wish", "most"],
+        "ticks": ["wish", "ports"],
+        "timetable": ["wish", "ports"],
+        "is_timetable": ["wish", "ports", "thing"],
+    },
+    "onto": {
+        "is_onto": ["wish"],
+        "undone": ["wish"],
+        "behind": ["wish", "other"],
+        "beside": ["wish", "other"],
+        "serves_all": ["cells", "spare", "order"],
+        "beaten": ["cells", "spare", "order"],
+    },
+    "moving": {
+        "moved": ["sources"],
+        "rings": ["sources"],
+        "moves": ["sources", "spare"],
+    },
+    "tables": {
+        "Table": ["letters", "cells", "ends"],
+        "is_letters": ["table", "thing"],
+        "letters_make": ["table", "program"],
+        "letters_ran": ["table", "program", "content"],
+    },
 }
-LIBRARY = {"math": ["gcd", "lcm"]}
+LIBRARY = {"math": ["gcd", "lcm"], "heapq": ["heappush", "heappop"]}
 BARRED = re.compile(
     r"\b(type|typing|enum|Enum|Flag|Generic|Protocol|ABC|namedtuple|register|mro|elements|open|input|law"
     r"|eval|exec|compile|id|dir|vars|globals|locals|chr|float|complex|hash|_wall)\b|dataclass|overload|contextmanager")
