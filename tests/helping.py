@@ -3,7 +3,11 @@
 from fractions import Fraction
 from itertools import combinations, product
 
+from oncetwice.benches import Bench
+from oncetwice.codes import Code
+from oncetwice.desks import Desk
 from oncetwice.errors import BadWish, NoProgram
+from oncetwice.runners import Runner
 from oncetwice.tables import Table
 from oncetwice.wishes import Wish
 
@@ -51,7 +55,8 @@ def odd_things():
         None, True, False, "", "0", "momen", b"", b"01", [], [0], [0, 1], [[0, [1, 2]]], {}, {0: 1},
         {"rows": ()}, range(2), slice(1), Ellipsis, NotImplemented, len, int, object(), iter([0]),
         bytearray(b"a"), memoryview(b"a"), ValueError("a"), odd_things, NoProgram(),
-        BadWish(("rows",)), SWAP, wish([None]), Table(2, 1, ((1,), (0,))),
+        BadWish(("rows",)), SWAP, wish([None]), Table(2, 1, ((1,), (0,))), Code(1, (0,), (("go", 1),)),
+        Runner(Code(1, (), ()), 0, (), ((0, 1),)), Bench(SWAP), Desk(),
         deep((), 36), deep(None, 36), deep_list(0, 36), deep({0: deep_list(True, 10)}, 20), ((None,),) * 9,
     ]
 
